@@ -18,7 +18,8 @@ import (
 // layers are the landed layers, with the features of their section 'Ways'.
 func layers() map[string]string {
 	return map[string]string{
-		"codec": "array function-field panic recover defer three-index",
+		"codec":  "array function-field panic recover defer three-index",
+		"digest": "array method-value range-integer",
 	}
 }
 
