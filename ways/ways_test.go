@@ -20,6 +20,7 @@ func layers() map[string]string {
 	return map[string]string{
 		"codec":  "array function-field panic recover defer three-index",
 		"digest": "array method-value range-integer",
+		"lex":    "array function-field panic recover defer",
 	}
 }
 
