@@ -21,6 +21,7 @@ func layers() map[string]string {
 		"codec":  "array function-field panic recover defer three-index",
 		"digest": "array method-value range-integer",
 		"lex":    "array function-field panic recover defer",
+		"disk":   "copy three-index range-function",
 	}
 }
 
