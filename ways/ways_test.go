@@ -18,10 +18,11 @@ import (
 // layers are the landed layers, with the features of their section 'Ways'.
 func layers() map[string]string {
 	return map[string]string{
-		"codec":  "array function-field panic recover defer three-index",
-		"digest": "array method-value range-integer",
-		"lex":    "array function-field panic recover defer",
-		"disk":   "copy three-index range-function",
+		"codec":   "array function-field panic recover defer three-index",
+		"digest":  "array method-value range-integer",
+		"lex":     "array function-field panic recover defer",
+		"disk":    "copy three-index range-function",
+		"journal": "range-function array label",
 	}
 }
 
