@@ -23,6 +23,7 @@ func layers() map[string]string {
 		"lex":     "array function-field panic recover defer",
 		"disk":    "copy three-index range-function",
 		"journal": "range-function array label",
+		"network": "array-compared three-index range-function",
 	}
 }
 
