@@ -24,6 +24,7 @@ func layers() map[string]string {
 		"disk":    "copy three-index range-function",
 		"journal": "range-function array label",
 		"network": "array-compared three-index range-function",
+		"merkle":  "range-function variadic label",
 	}
 }
 
