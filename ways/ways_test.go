@@ -25,6 +25,7 @@ func layers() map[string]string {
 		"journal": "range-function array label",
 		"network": "array-compared three-index range-function",
 		"merkle":  "range-function variadic label",
+		"chain":   "generic-function closure range-function variadic",
 	}
 }
 
