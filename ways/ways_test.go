@@ -26,6 +26,7 @@ func layers() map[string]string {
 		"network": "array-compared three-index range-function",
 		"merkle":  "range-function variadic label",
 		"chain":   "generic-function closure range-function variadic",
+		"group":   "range-function label variadic range-integer",
 	}
 }
 
