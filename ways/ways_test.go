@@ -27,6 +27,7 @@ func layers() map[string]string {
 		"merkle":  "range-function variadic label",
 		"chain":   "generic-function closure range-function variadic",
 		"group":   "range-function label variadic range-integer",
+		"elgamal": "array closure generic-function range-function",
 	}
 }
 
