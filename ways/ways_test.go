@@ -28,6 +28,7 @@ func layers() map[string]string {
 		"chain":   "generic-function closure range-function variadic",
 		"group":   "range-function label variadic range-integer",
 		"elgamal": "array closure generic-function range-function",
+		"sign":    "variadic type-switch method-value",
 	}
 }
 
