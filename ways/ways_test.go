@@ -29,6 +29,7 @@ func layers() map[string]string {
 		"group":   "range-function label variadic range-integer",
 		"elgamal": "array closure generic-function range-function",
 		"sign":    "variadic type-switch method-value",
+		"equal":   "variadic range-function closure",
 	}
 }
 
