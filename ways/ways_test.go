@@ -30,6 +30,7 @@ func layers() map[string]string {
 		"elgamal": "array closure generic-function range-function",
 		"sign":    "variadic type-switch method-value",
 		"equal":   "variadic range-function closure",
+		"beacon":  "map range-function closure variadic",
 	}
 }
 
