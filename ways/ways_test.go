@@ -31,6 +31,7 @@ func layers() map[string]string {
 		"sign":    "variadic type-switch method-value",
 		"equal":   "variadic range-function closure",
 		"beacon":  "map range-function closure variadic",
+		"shuffle": "generic-function map array function-field range-function",
 	}
 }
 
