@@ -32,6 +32,7 @@ func layers() map[string]string {
 		"equal":   "variadic range-function closure",
 		"beacon":  "map range-function closure variadic",
 		"shuffle": "generic-function map array function-field range-function",
+		"blind":   "variadic generic-function embedding promoted",
 	}
 }
 
