@@ -33,6 +33,7 @@ func layers() map[string]string {
 		"beacon":  "map range-function closure variadic",
 		"shuffle": "generic-function map array function-field range-function",
 		"blind":   "variadic generic-function embedding promoted",
+		"onetime": "generic-function range-function variadic",
 	}
 }
 
