@@ -34,6 +34,7 @@ func layers() map[string]string {
 		"shuffle": "generic-function map array function-field range-function",
 		"blind":   "variadic generic-function embedding promoted",
 		"onetime": "generic-function range-function variadic",
+		"syntax":  "method-value panic recover defer variadic type-switch closure",
 	}
 }
 
