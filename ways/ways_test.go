@@ -35,6 +35,7 @@ func layers() map[string]string {
 		"blind":   "variadic generic-function embedding promoted",
 		"onetime": "generic-function range-function variadic",
 		"syntax":  "method-value panic recover defer variadic type-switch closure",
+		"orders":  "map generic-function closure variadic",
 	}
 }
 
