@@ -38,6 +38,7 @@ func layers() map[string]string {
 		"orders":    "map generic-function closure variadic",
 		"calendar":  "range-function variadic label range-integer",
 		"timetable": "range-function closure method-value generic-function",
+		"tariff":    "closure generic-function range-function variadic",
 	}
 }
 
