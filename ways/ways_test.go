@@ -15,7 +15,7 @@ import (
 	"testing"
 )
 
-// layers are the landed layers, with the features of their section 'Ways'.
+// layers are the landed layers, with the features of their section 'Ways', and further packages.
 func layers() map[string]string {
 	return map[string]string{
 		"codec":     "array function-field panic recover defer three-index",
@@ -38,6 +38,8 @@ func layers() map[string]string {
 		"orders":    "map generic-function closure variadic",
 		"calendar":  "range-function variadic label range-integer",
 		"timetable": "range-function closure method-value generic-function",
+		"loading":   "",
+		"plans":     "closure map struct-compared function-field three-index",
 		"tariff":    "closure generic-function range-function variadic",
 	}
 }
@@ -318,7 +320,10 @@ func TestGiven(t *testing.T) {
 	}
 	for _, d := range dirs {
 		name := filepath.Base(filepath.Dir(d))
-		if _, err := os.Stat(filepath.Join("..", name, name+".go")); err == nil && layers()[name] == "" {
+		if _, err := os.Stat(filepath.Join("..", name, name+".go")); err != nil {
+			continue
+		}
+		if _, ok := layers()[name]; !ok {
 			t.Error(name, "has tests, but no features")
 		}
 	}
