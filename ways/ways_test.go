@@ -40,6 +40,7 @@ func layers() map[string]string {
 		"timetable": "range-function closure method-value generic-function",
 		"loading":   "",
 		"plans":     "closure map struct-compared function-field three-index",
+		"refusals":  "range-function embedding promoted three-index",
 		"tariff":    "closure generic-function range-function variadic",
 	}
 }
