@@ -41,6 +41,7 @@ func layers() map[string]string {
 		"loading":   "",
 		"plans":     "closure map struct-compared function-field three-index",
 		"refusals":  "range-function embedding promoted three-index",
+		"repairs":   "closure generic-function map struct-compared range-function",
 		"tariff":    "closure generic-function range-function variadic",
 	}
 }
