@@ -42,6 +42,7 @@ func layers() map[string]string {
 		"plans":     "closure map struct-compared function-field three-index",
 		"refusals":  "range-function embedding promoted three-index",
 		"repairs":   "closure generic-function map struct-compared range-function",
+		"flows":     "closure map range-function generic-function",
 		"tariff":    "closure generic-function range-function variadic",
 	}
 }
