@@ -43,6 +43,7 @@ func layers() map[string]string {
 		"refusals":  "range-function embedding promoted three-index",
 		"repairs":   "closure generic-function map struct-compared range-function",
 		"flows":     "closure map range-function generic-function",
+		"reach":     "closure range-function generic-function map",
 		"tariff":    "closure generic-function range-function variadic",
 	}
 }
