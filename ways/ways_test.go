@@ -44,6 +44,7 @@ func layers() map[string]string {
 		"repairs":   "closure generic-function map struct-compared range-function",
 		"flows":     "closure map range-function generic-function",
 		"reach":     "closure range-function generic-function map",
+		"count":     "range-function closure map array generic-function",
 		"tariff":    "closure generic-function range-function variadic",
 	}
 }
