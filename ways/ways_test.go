@@ -45,6 +45,7 @@ func layers() map[string]string {
 		"flows":     "closure map range-function generic-function",
 		"reach":     "closure range-function generic-function map",
 		"count":     "range-function closure map array generic-function",
+		"bounds":    "range-function map label",
 		"tariff":    "closure generic-function range-function variadic",
 	}
 }
