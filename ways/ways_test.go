@@ -46,6 +46,7 @@ func layers() map[string]string {
 		"reach":     "closure range-function generic-function map",
 		"count":     "range-function closure map array generic-function",
 		"bounds":    "range-function map label",
+		"explain":   "map range-function closure",
 		"tariff":    "closure generic-function range-function variadic",
 	}
 }
