@@ -47,6 +47,7 @@ func layers() map[string]string {
 		"count":     "range-function closure map array generic-function",
 		"bounds":    "range-function map label",
 		"explain":   "map range-function closure",
+		"grow":      "closure generic-function range-function map",
 		"tariff":    "closure generic-function range-function variadic",
 	}
 }
