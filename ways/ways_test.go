@@ -48,6 +48,7 @@ func layers() map[string]string {
 		"bounds":    "range-function map label",
 		"explain":   "map range-function closure",
 		"grow":      "closure generic-function range-function map",
+		"promise":   "range-function closure generic-function",
 		"tariff":    "closure generic-function range-function variadic",
 	}
 }
