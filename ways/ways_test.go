@@ -49,6 +49,7 @@ func layers() map[string]string {
 		"explain":   "map range-function closure",
 		"grow":      "closure generic-function range-function map",
 		"promise":   "range-function closure generic-function",
+		"breakers":  "range-function generic-function map closure",
 		"tariff":    "closure generic-function range-function variadic",
 	}
 }
