@@ -50,6 +50,7 @@ func layers() map[string]string {
 		"grow":      "closure generic-function range-function map",
 		"promise":   "range-function closure generic-function",
 		"breakers":  "range-function generic-function map closure",
+		"registry":  "map array-compared function-field range-function closure",
 		"tariff":    "closure generic-function range-function variadic",
 	}
 }
