@@ -51,6 +51,7 @@ func layers() map[string]string {
 		"promise":   "range-function closure generic-function",
 		"breakers":  "range-function generic-function map closure",
 		"registry":  "map array-compared function-field range-function closure",
+		"homes":     "map range-function function-field label",
 		"tariff":    "closure generic-function range-function variadic",
 	}
 }
