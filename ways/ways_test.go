@@ -52,6 +52,7 @@ func layers() map[string]string {
 		"breakers":  "range-function generic-function map closure",
 		"registry":  "map array-compared function-field range-function closure",
 		"homes":     "map range-function function-field label",
+		"aliases":   "range-function map generic-function variadic",
 		"tariff":    "closure generic-function range-function variadic",
 	}
 }
