@@ -53,6 +53,7 @@ func layers() map[string]string {
 		"registry":  "map array-compared function-field range-function closure",
 		"homes":     "map range-function function-field label",
 		"aliases":   "range-function map generic-function variadic",
+		"forward":   "closure generic-function panic recover defer",
 		"tariff":    "closure generic-function range-function variadic",
 	}
 }
