@@ -54,6 +54,7 @@ func layers() map[string]string {
 		"homes":     "map range-function function-field label",
 		"aliases":   "range-function map generic-function variadic",
 		"forward":   "closure generic-function panic recover defer",
+		"stamps":    "variadic closure method-value embedding promoted",
 		"tariff":    "closure generic-function range-function variadic",
 	}
 }
