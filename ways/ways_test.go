@@ -55,6 +55,7 @@ func layers() map[string]string {
 		"aliases":   "range-function map generic-function variadic",
 		"forward":   "closure generic-function panic recover defer",
 		"stamps":    "variadic closure method-value embedding promoted",
+		"books":     "range-function function-field array closure",
 		"tariff":    "closure generic-function range-function variadic",
 	}
 }
