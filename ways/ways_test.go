@@ -56,6 +56,7 @@ func layers() map[string]string {
 		"forward":   "closure generic-function panic recover defer",
 		"stamps":    "variadic closure method-value embedding promoted",
 		"books":     "range-function function-field array closure",
+		"escrow":    "range-function closure method-value",
 		"tariff":    "closure generic-function range-function variadic",
 	}
 }
