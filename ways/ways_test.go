@@ -57,6 +57,7 @@ func layers() map[string]string {
 		"stamps":    "variadic closure method-value embedding promoted",
 		"books":     "range-function function-field array closure",
 		"escrow":    "range-function closure method-value",
+		"fund":      "range-function generic-function closure",
 		"tariff":    "closure generic-function range-function variadic",
 	}
 }
