@@ -58,6 +58,7 @@ func layers() map[string]string {
 		"books":     "range-function function-field array closure",
 		"escrow":    "range-function closure method-value",
 		"fund":      "range-function generic-function closure",
+		"settle":    "closure embedding promoted panic recover defer",
 		"tariff":    "closure generic-function range-function variadic",
 	}
 }
