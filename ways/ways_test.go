@@ -59,6 +59,7 @@ func layers() map[string]string {
 		"escrow":    "range-function closure method-value",
 		"fund":      "range-function generic-function closure",
 		"settle":    "closure embedding promoted panic recover defer",
+		"audit":     "range-function method-value struct-compared closure",
 		"tariff":    "closure generic-function range-function variadic",
 	}
 }
