@@ -60,6 +60,7 @@ func layers() map[string]string {
 		"fund":      "range-function generic-function closure",
 		"settle":    "closure embedding promoted panic recover defer",
 		"audit":     "range-function method-value struct-compared closure",
+		"receipts":  "variadic generic-function embedding promoted",
 		"tariff":    "closure generic-function range-function variadic",
 	}
 }
