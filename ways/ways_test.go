@@ -61,6 +61,7 @@ func layers() map[string]string {
 		"settle":    "closure embedding promoted panic recover defer",
 		"audit":     "range-function method-value struct-compared closure",
 		"receipts":  "variadic generic-function embedding promoted",
+		"devices":   "generic-function range-function closure",
 		"tariff":    "closure generic-function range-function variadic",
 	}
 }
