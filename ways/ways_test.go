@@ -62,6 +62,7 @@ func layers() map[string]string {
 		"audit":     "range-function method-value struct-compared closure",
 		"receipts":  "variadic generic-function embedding promoted",
 		"devices":   "generic-function range-function closure",
+		"dead":      "range-function generic-function closure method-value",
 		"tariff":    "closure generic-function range-function variadic",
 	}
 }
