@@ -63,6 +63,7 @@ func layers() map[string]string {
 		"receipts":  "variadic generic-function embedding promoted",
 		"devices":   "generic-function range-function closure",
 		"dead":      "range-function generic-function closure method-value",
+		"custody":   "constant-table range-function panic recover defer",
 		"tariff":    "closure generic-function range-function variadic",
 	}
 }
