@@ -64,6 +64,7 @@ func layers() map[string]string {
 		"devices":   "generic-function range-function closure",
 		"dead":      "range-function generic-function closure method-value",
 		"custody":   "constant-table range-function panic recover defer",
+		"epochs":    "range-function closure array",
 		"tariff":    "closure generic-function range-function variadic",
 	}
 }
