@@ -65,6 +65,7 @@ func layers() map[string]string {
 		"dead":      "range-function generic-function closure method-value",
 		"custody":   "constant-table range-function panic recover defer",
 		"epochs":    "range-function closure array",
+		"handover":  "variadic type-switch range-function struct-compared",
 		"tariff":    "closure generic-function range-function variadic",
 	}
 }
