@@ -66,6 +66,7 @@ func layers() map[string]string {
 		"custody":   "constant-table range-function panic recover defer",
 		"epochs":    "range-function closure array",
 		"handover":  "variadic type-switch range-function struct-compared",
+		"office":    "function-field range-function panic recover defer",
 		"tariff":    "closure generic-function range-function variadic",
 	}
 }
