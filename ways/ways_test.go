@@ -67,6 +67,7 @@ func layers() map[string]string {
 		"epochs":    "range-function closure array",
 		"handover":  "variadic type-switch range-function struct-compared",
 		"office":    "function-field range-function panic recover defer",
+		"stores":    "range-function panic recover defer",
 		"tariff":    "closure generic-function range-function variadic",
 	}
 }
