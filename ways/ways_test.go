@@ -68,6 +68,7 @@ func layers() map[string]string {
 		"handover":  "variadic type-switch range-function struct-compared",
 		"office":    "function-field range-function panic recover defer",
 		"stores":    "range-function panic recover defer",
+		"copies":    "map struct-compared range-function generic-function",
 		"tariff":    "closure generic-function range-function variadic",
 	}
 }
