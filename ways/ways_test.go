@@ -69,6 +69,7 @@ func layers() map[string]string {
 		"office":    "function-field range-function panic recover defer",
 		"stores":    "range-function panic recover defer",
 		"copies":    "map struct-compared range-function generic-function",
+		"relay":     "map closure range-function panic recover defer",
 		"tariff":    "closure generic-function range-function variadic",
 	}
 }
