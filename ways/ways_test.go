@@ -70,6 +70,7 @@ func layers() map[string]string {
 		"stores":    "range-function panic recover defer",
 		"copies":    "map struct-compared range-function generic-function",
 		"relay":     "map closure range-function panic recover defer",
+		"post":      "function-field embedding promoted variadic panic recover defer",
 		"tariff":    "closure generic-function range-function variadic",
 	}
 }
