@@ -71,6 +71,7 @@ func layers() map[string]string {
 		"copies":    "map struct-compared range-function generic-function",
 		"relay":     "map closure range-function panic recover defer",
 		"post":      "function-field embedding promoted variadic panic recover defer",
+		"gossip":    "map method-expression panic recover defer range-function",
 		"tariff":    "closure generic-function range-function variadic",
 	}
 }
