@@ -72,6 +72,7 @@ func layers() map[string]string {
 		"relay":     "map closure range-function panic recover defer",
 		"post":      "function-field embedding promoted variadic panic recover defer",
 		"gossip":    "map method-expression panic recover defer range-function",
+		"paths":     "range-function function-field label variadic",
 		"tariff":    "closure generic-function range-function variadic",
 	}
 }
