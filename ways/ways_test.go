@@ -73,6 +73,7 @@ func layers() map[string]string {
 		"post":      "function-field embedding promoted variadic panic recover defer",
 		"gossip":    "map method-expression panic recover defer range-function",
 		"paths":     "range-function function-field label variadic",
+		"arbiter":   "closure range-function label",
 		"tariff":    "closure generic-function range-function variadic",
 	}
 }
