@@ -74,6 +74,7 @@ func layers() map[string]string {
 		"gossip":    "map method-expression panic recover defer range-function",
 		"paths":     "range-function function-field label variadic",
 		"arbiter":   "closure range-function label",
+		"defence":   "closure variadic type-switch method-expression panic recover defer",
 		"tariff":    "closure generic-function range-function variadic",
 	}
 }
