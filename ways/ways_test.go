@@ -75,6 +75,7 @@ func layers() map[string]string {
 		"paths":     "range-function function-field label variadic",
 		"arbiter":   "closure range-function label",
 		"defence":   "closure variadic type-switch method-expression panic recover defer",
+		"bonds":     "generic-function range-function fallthrough variadic closure",
 		"tariff":    "closure generic-function range-function variadic",
 	}
 }
