@@ -76,6 +76,7 @@ func layers() map[string]string {
 		"arbiter":   "closure range-function label",
 		"defence":   "closure variadic type-switch method-expression panic recover defer",
 		"bonds":     "generic-function range-function fallthrough variadic closure",
+		"reports":   "map function-field range-function variadic type-switch panic recover defer",
 		"tariff":    "closure generic-function range-function variadic",
 	}
 }
