@@ -77,6 +77,7 @@ func layers() map[string]string {
 		"defence":   "closure variadic type-switch method-expression panic recover defer",
 		"bonds":     "generic-function range-function fallthrough variadic closure",
 		"reports":   "map function-field range-function variadic type-switch panic recover defer",
+		"console":   "map method-expression range-function variadic type-switch generic-type panic recover defer",
 		"tariff":    "closure generic-function range-function variadic",
 	}
 }
