@@ -137,3 +137,30 @@ func TestOpenedByAll(t *testing.T) {
 		}
 	}
 }
+
+// TestAnyWord: for each other word there is a key for which the same cipher says this word.
+func TestAnyWord(t *testing.T) {
+	r := rand.New(rand.NewSource(76))
+	power := func(a, n int) int {
+		result := 1
+		for ; n > 0; n /= 2 {
+			if n%2 == 1 {
+				result = result * a % api.Q
+			}
+			a = a * a % api.Q
+		}
+		return result
+	}
+	for range 50 {
+		n := 1 + r.Intn(api.Q-1)
+		s, _ := Seal(64, api.Words{1 + r.Intn(api.Q), 1, 1}, [3]int{n, 0, 0})
+		word := 1 + r.Intn(api.Q)
+		x, _ := group.Element(word)
+		inverse, _ := group.Pow(x, -1)
+		mask, _ := group.Mul(s[0].B, inverse)
+		key, _ := group.Pow(mask, power(n, api.Q-2))
+		if other, e := Seal(key, api.Words{word, 1, 1}, [3]int{n, 0, 0}); e != api.OK || other[0] != s[0] {
+			t.Error(word, e)
+		}
+	}
+}

@@ -161,3 +161,15 @@ func TestBareErrors(t *testing.T) {
 		t.Error("no letters")
 	}
 }
+
+// TestCommitted: with another d the same numbers commit to something else.
+func TestCommitted(t *testing.T) {
+	r := rand.New(rand.NewSource(78))
+	for range 50 {
+		a, s, e := pow(api.G, r.Intn(api.Q)), r.Intn(api.Q), 1+r.Intn(api.Q-1)
+		d, other := pow(api.G, r.Intn(api.Q)), pow(api.G, r.Intn(api.Q))
+		if d != other && mul(pow(a, s), pow(d, -e)) == mul(pow(a, s), pow(other, -e)) {
+			t.Error(a, s, e)
+		}
+	}
+}

@@ -167,3 +167,34 @@ func TestSpend(t *testing.T) {
 		t.Error(e)
 	}
 }
+
+// logarithm returns the exponent of an element to a base other than 1, by meeting in the middle.
+func logarithm(base, x int) int {
+	const step = 1 << 15
+	small, big := map[int]int{}, 1
+	for n := range step {
+		small[big] = n
+		big, _ = group.Mul(big, base)
+	}
+	back := pow(big, -1)
+	for k := 0; ; k++ {
+		if n, ok := small[x]; ok {
+			return k*step + n
+		}
+		x, _ = group.Mul(x, back)
+	}
+}
+
+// TestAnyAlias: with a key that is not 1, each alias leads to each To.B, by some number.
+func TestAnyAlias(t *testing.T) {
+	r := rand.New(rand.NewSource(77))
+	for _, key := range []int{4, pow(4, 987654321)} {
+		x, _ := Make(3, key, 1+r.Intn(api.Q), r.Intn(api.Q))
+		alias := 1 + r.Intn(api.Q)
+		element, _ := group.Element(alias)
+		mask, _ := group.Mul(x.To.B, pow(element, -1))
+		if y, e := Make(3, key, alias, logarithm(key, mask)); e != api.OK || y.To.B != x.To.B {
+			t.Error(key, alias, e)
+		}
+	}
+}
